@@ -2,8 +2,10 @@ package fifo_test
 
 import (
 	"math"
+	"runtime"
 	"slices"
 	"testing"
+	"weak"
 
 	"lamplighter/api"
 	"lamplighter/fifo"
@@ -278,4 +280,30 @@ func TestLongUse(t *testing.T) {
 	if f.Clear() > 3 || f.Len() != 0 {
 		t.Errorf("there were more than there may be")
 	}
+}
+
+// TestWhatHasGone holds that what was taken is not kept.
+func TestWhatHasGone(t *testing.T) {
+	f := fifo.New[*[16]int](100)
+	var all []weak.Pointer[[16]int]
+	for i := range 100 {
+		x := &[16]int{i}
+		f.Push(x)
+		all = append(all, weak.Make(x))
+	}
+	for range 90 {
+		f.Pop()
+	}
+	runtime.GC()
+	kept := 0
+	for _, x := range all {
+		if x.Value() != nil {
+			kept++
+		}
+	}
+	// One more may still be known to the caller.
+	if kept > 11 || f.Len() != 10 {
+		t.Errorf("%d are kept, of which %d are there", kept, f.Len())
+	}
+	runtime.KeepAlive(f)
 }

@@ -2,9 +2,11 @@ package heap_test
 
 import (
 	"iter"
+	"runtime"
 	"slices"
 	"sort"
 	"testing"
+	"weak"
 
 	"lamplighter/api"
 	"lamplighter/heap"
@@ -412,4 +414,36 @@ func TestAgain(t *testing.T) {
 		}
 		first = all
 	}
+}
+
+// held is a thing of which can be told whether it is still kept anywhere.
+type held struct{ thing }
+
+func (a *held) Less(b *held) bool { return a.rank < b.rank }
+
+// TestWhatHasGone holds that what was taken is not kept.
+func TestWhatHasGone(t *testing.T) {
+	var h heap.Heap[*held]
+	var all []weak.Pointer[held]
+	for i := range 100 {
+		x := &held{thing{rank: i}}
+		h.Push(x)
+		all = append(all, weak.Make(x))
+	}
+	h.Upto(&held{thing{rank: 49}})
+	for range 40 {
+		h.Pop()
+	}
+	runtime.GC()
+	kept := 0
+	for _, x := range all {
+		if x.Value() != nil {
+			kept++
+		}
+	}
+	// One more may still be known to the caller.
+	if kept > 11 || h.Len() != 10 {
+		t.Errorf("%d are kept, of which %d are there", kept, h.Len())
+	}
+	runtime.KeepAlive(&h)
 }

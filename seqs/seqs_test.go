@@ -414,16 +414,19 @@ func TestMergeOfVeryMany(t *testing.T) {
 
 // TestMergeIsTheCallers holds that lists are not changed, and share nothing with the answer.
 func TestMergeIsTheCallers(t *testing.T) {
-	for many := 1; many < 4; many++ {
-		l := drawn(5, 3, 6, 4, true)[:many]
-		was := drawn(5, 3, 6, 4, true)[:many]
+	lists := func() [][]thing {
+		return [][]thing{{{1, "a"}, {3, "a"}}, {}, {{2, "c"}, {4, "c"}, {5, "c"}}}
+	}
+	for many := 1; many <= 3; many++ {
+		l := lists()[:many]
 		got := seqs.Merge(l...)
 		want := slices.Clone(got)
 		for i := range got {
 			got[i] = thing{-1, "changed"}
 		}
+		_ = append(got[:0], thing{-2, "changed"})
 		for i := range l {
-			checkList(t, "what was handed in", l[i], was[i])
+			checkList(t, "what was handed in", l[i], lists()[i])
 		}
 		got = seqs.Merge(l...)
 		for i := range l {
