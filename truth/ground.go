@@ -152,7 +152,7 @@ func (g ground) grown(m []api.Pair, all [][]api.Pair) [][]api.Pair {
 	return all
 }
 
-// onward is the elements that the pair behind some pairs may have.
+// onward is the elements that the pair behind some pairs may have, if these are to become a match.
 func (g ground) onward(m []api.Pair) []int {
 	var l []int
 	at := -1
@@ -167,11 +167,8 @@ func (g ground) onward(m []api.Pair) []int {
 		}
 	}
 	for at = pat.Next(g.query, at); at >= 0; at = pat.Next(g.query, at) {
-		x := g.query.Elems[at]
-		if x.Max > 0 {
-			l = append(l, at)
-		}
-		if !often(x, 0) {
+		l = append(l, at)
+		if !often(g.query.Elems[at], 0) {
 			break
 		}
 	}

@@ -290,6 +290,27 @@ func TestNumbersTwice(t *testing.T) {
 	checkAll(t, "SEQ(A a, !B n, C c) WITHIN 9", []api.Event{at("A", 1, 1, 0), at("B", 2, 1, 0), at("C", 4, 2, 0)})
 }
 
+// TestWhatNeedNotBeThere holds that an element that may be there no time is passed over, and guards nothing.
+func TestWhatNeedNotBeThere(t *testing.T) {
+	q := read(t, "SEQ(A a, B b, C c) WITHIN 9")
+	q.Elems[1].Min = 0
+	for kinds, want := range map[string][][]api.Pair{
+		"ABC": {pairs(0, 1, 1, 2, 2, 3), pairs(0, 1, 2, 3)},
+		"AC":  {pairs(0, 1, 2, 2)},
+		"AB":  nil,
+		"BC":  nil,
+	} {
+		if got := truth.All(types(t), q, row(kinds)); !sameAll(got, want) {
+			t.Errorf("All in %s: got %v, want %v", kinds, got, want)
+		}
+		for _, m := range want {
+			if !truth.Match(types(t), q, row(kinds), m) {
+				t.Errorf("Match in %s: %v is none", kinds, m)
+			}
+		}
+	}
+}
+
 // TestQueriesThatMayNotBe holds that all calls answer by what queries say.
 func TestQueriesThatMayNotBe(t *testing.T) {
 	s, l := types(t), row("AB")
