@@ -134,9 +134,11 @@ func TestOver(t *testing.T) {
 		{below, 5, 5, true}, {below, 5, 4, false}, {below, 5, 6, true}, {below, math.MaxInt64, math.MinInt64, false},
 	}
 	for _, c := range cases {
-		r := run.Run{}.With(c.q, 1, 0, at("A", c.first, 1)).With(c.q, 2, 2, at("C", 9, 2))
-		if got := r.Over(c.q, c.time); got != c.want {
-			t.Errorf("Over at %d, from %d on, within %d: got %v", c.time, c.first, c.q.Window, got)
+		one := run.Run{}.With(c.q, 1, 0, at("A", c.first, 1))
+		for _, r := range []run.Run{one, one.With(c.q, 2, 2, at("C", 9, 2))} {
+			if got := r.Over(c.q, c.time); got != c.want {
+				t.Errorf("Over at %d, from %d on, within %d: got %v", c.time, c.first, c.q.Window, got)
+			}
 		}
 	}
 	if (run.Run{}).Over(below, 100) || run.Load(api.Saved{First: 1}).Over(q, 100) {
