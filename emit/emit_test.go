@@ -8,6 +8,7 @@ import (
 
 	"lamplighter/api"
 	"lamplighter/emit"
+	"lamplighter/sample"
 )
 
 func pairs(l ...int64) []api.Pair {
@@ -254,17 +255,13 @@ func TestReadNone(t *testing.T) {
 
 // TestReadIsShow holds that what is read of any text has just that text.
 func TestReadIsShow(t *testing.T) {
-	d := uint64(1)
-	below := func(n int) int {
-		d = d*2862933555777941757 + 3037000493
-		return int(d >> 35 % uint64(n))
-	}
+	d := sample.Dice(1)
 	parts := []string{"p", " ", "'", "k", "7/3", "0:1", "lost", "''", " ", "' ", "/", ":", "1", "-", "0"}
 	read := 0
 	for range 200000 {
 		text := "p '"
-		for range below(9) {
-			text += parts[below(len(parts))]
+		for range d.Below(9) {
+			text += d.Pick(parts...)
 		}
 		if o, ok := emit.Read(text); ok {
 			read++

@@ -12,32 +12,12 @@ import (
 	"lamplighter/event"
 	"lamplighter/mark"
 	"lamplighter/pat"
-	"lamplighter/ppat"
-	"lamplighter/schema"
+	"lamplighter/sample"
 	"lamplighter/value"
 )
 
-func types(t *testing.T) *schema.Schema {
-	t.Helper()
-	x := []api.Field{{Name: "x", Kind: api.Int}}
-	s, e := schema.New([]api.Type{{Name: "A", Fields: x}, {Name: "B", Fields: x}, {Name: "C", Fields: x}})
-	if e != api.OK {
-		t.Fatalf("the schema: %d", e)
-	}
-	return s
-}
-
-func read(t *testing.T, text string) api.Query {
-	t.Helper()
-	q, e := ppat.Parse(text)
-	if e != api.OK {
-		t.Fatalf("%s: %d", text, e)
-	}
-	return q
-}
-
 func at(kind, key string, time, seq int64) api.Event {
-	return api.Event{Type: kind, Key: key, Time: time, Seq: seq, Vals: []api.Value{value.Num(seq % 3)}}
+	return sample.Event(kind, key, time, seq, seq%3)
 }
 
 // The messages.
@@ -45,9 +25,8 @@ func put(e api.Event) api.Msg { return api.Msg{Kind: api.MsgEvent, Ticket: e.Seq
 
 func advance(time int64) api.Msg { return api.Msg{Kind: api.MsgAdvance, T: time} }
 
-func register(t *testing.T, ticket int64, id, text string) api.Msg {
-	t.Helper()
-	return api.Msg{Kind: api.MsgRegister, Ticket: ticket, Id: id, Q: read(t, text)}
+func register(ticket int64, id, text string) api.Msg {
+	return api.Msg{Kind: api.MsgRegister, Ticket: ticket, Id: id, Q: sample.Query(text)}
 }
 
 func unregister(ticket int64, id string) api.Msg {
@@ -82,9 +61,9 @@ func check(t *testing.T, x *engine.Engine, mark int64, kept, live int, closed bo
 }
 
 func TestExample(t *testing.T) {
-	x := engine.New(types(t))
+	x := engine.New(sample.Schema())
 	check(t, x, -1, 0, 0, false)
-	take(t, x, register(t, 1, "p", "SEQ(A a) WITHIN 9"), api.OK)
+	take(t, x, register(1, "p", "SEQ(A a) WITHIN 9"), api.OK)
 	take(t, x, put(at("A", "k", 5, 2)), api.OK)
 	take(t, x, advance(4), api.OK)
 	check(t, x, 4, 1, 0, false)
@@ -94,11 +73,11 @@ func TestExample(t *testing.T) {
 
 // TestInOrder holds that events are fed by times, then numbers, whenever they came; and each to the queries that see it.
 func TestInOrder(t *testing.T) {
-	x := engine.New(types(t))
-	take(t, x, register(t, 1, "p", "SEQ(A a, B b) WITHIN 9"), api.OK)
+	x := engine.New(sample.Schema())
+	take(t, x, register(1, "p", "SEQ(A a, B b) WITHIN 9"), api.OK)
 	take(t, x, put(at("B", "k", 4, 2)), api.OK)
 	take(t, x, put(at("A", "k", 2, 3)), api.OK)
-	take(t, x, register(t, 4, "q", "SEQ(A a) WITHIN 9"), api.OK)
+	take(t, x, register(4, "q", "SEQ(A a) WITHIN 9"), api.OK)
 	take(t, x, put(at("A", "k", 3, 5)), api.OK)
 	take(t, x, put(at("A", "l", 1, 6)), api.OK)
 	take(t, x, unregister(7, "p"), api.OK)
@@ -117,7 +96,7 @@ func TestInOrder(t *testing.T) {
 }
 
 func TestErrors(t *testing.T) {
-	x := engine.New(types(t))
+	x := engine.New(sample.Schema())
 	for _, time := range []int64{-1, math.MinInt64, api.MaxTime + 1} {
 		take(t, x, advance(time), api.ErrTime)
 	}
@@ -128,10 +107,10 @@ func TestErrors(t *testing.T) {
 	take(t, x, advance(4), api.ErrOrder)
 	take(t, x, put(at("A", "k", 5, 2)), api.ErrLate)
 	take(t, x, put(at("A", "k", 6, 2)), api.OK)
-	take(t, x, register(t, 3, "p", "SEQ(A a) WITHIN 9"), api.OK)
-	take(t, x, register(t, 4, "p", "SEQ(A a) WITHIN 9"), api.ErrTwice)
-	take(t, x, register(t, 4, "", "SEQ(A a) WITHIN 9"), api.ErrKey)
-	take(t, x, register(t, 3, "q", "SEQ(A a) WITHIN 9"), api.ErrOrder)
+	take(t, x, register(3, "p", "SEQ(A a) WITHIN 9"), api.OK)
+	take(t, x, register(4, "p", "SEQ(A a) WITHIN 9"), api.ErrTwice)
+	take(t, x, register(4, "", "SEQ(A a) WITHIN 9"), api.ErrKey)
+	take(t, x, register(3, "q", "SEQ(A a) WITHIN 9"), api.ErrOrder)
 	take(t, x, unregister(3, "p"), api.ErrOrder)
 	take(t, x, unregister(4, "q"), api.ErrNone)
 	for _, kind := range []int{0, 6, -1, math.MaxInt, math.MinInt} {
@@ -139,7 +118,7 @@ func TestErrors(t *testing.T) {
 	}
 	check(t, x, 5, 1, 0, false)
 	take(t, x, end(), api.OK)
-	for _, m := range []api.Msg{put(at("A", "k", 9, 9)), advance(9), advance(-1), register(t, 9, "q", "SEQ(A a) WITHIN 9"), unregister(9, "p"), end(), {}, {Kind: 6}} {
+	for _, m := range []api.Msg{put(at("A", "k", 9, 9)), advance(9), advance(-1), register(9, "q", "SEQ(A a) WITHIN 9"), unregister(9, "p"), end(), {}, {Kind: 6}} {
 		take(t, x, m, api.ErrClosed)
 	}
 	check(t, x, 5, 1, 0, true)
@@ -147,9 +126,9 @@ func TestErrors(t *testing.T) {
 
 // TestNotAsked holds that it is not asked whether an event, or a query, may be.
 func TestNotAsked(t *testing.T) {
-	x := engine.New(types(t))
+	x := engine.New(sample.Schema())
 	take(t, x, api.Msg{Kind: api.MsgRegister, Ticket: 1, Id: "p"}, api.OK)
-	take(t, x, register(t, 2, "q", "SEQ(Z a) WITHIN 9 CAP 0"), api.OK)
+	take(t, x, register(2, "q", "SEQ(Z a) WITHIN 9 CAP 0"), api.OK)
 	take(t, x, put(api.Event{Time: 3, Seq: 4}), api.OK)
 	take(t, x, put(api.Event{Type: "Z", Time: 3, Seq: 5}), api.OK)
 	take(t, x, put(api.Event{Type: "Z", Time: math.MaxInt64, Seq: -5}), api.OK)
@@ -159,8 +138,8 @@ func TestNotAsked(t *testing.T) {
 
 // TestLost holds that where runs are lost that is told in its place, and that no more are kept.
 func TestLost(t *testing.T) {
-	x := engine.New(types(t))
-	take(t, x, register(t, 1, "p", "SEQ(A a{1,2}) WITHIN 9 CAP 1"), api.OK)
+	x := engine.New(sample.Schema())
+	take(t, x, register(1, "p", "SEQ(A a{1,2}) WITHIN 9 CAP 1"), api.OK)
 	for seq := int64(2); seq < 5; seq++ {
 		take(t, x, put(at("A", "k", seq, seq)), api.OK)
 	}
@@ -172,7 +151,7 @@ func TestLost(t *testing.T) {
 }
 
 func TestRoom(t *testing.T) {
-	x := engine.New(types(t))
+	x := engine.New(sample.Schema())
 	e := at("A", "k", 5, 1)
 	for range api.MaxHeap {
 		if _, err := x.Take(put(e)); err != api.OK {
@@ -184,7 +163,7 @@ func TestRoom(t *testing.T) {
 	check(t, x, -1, api.MaxHeap, 0, false)
 	image := x.Save()
 	image.Events = append(image.Events, at("A", "k", 5, 1))
-	if y, err := engine.Load(types(t), image); y != nil || err != api.ErrBig {
+	if y, err := engine.Load(sample.Schema(), image); y != nil || err != api.ErrBig {
 		t.Errorf("got %d", err)
 	}
 	take(t, x, advance(5), api.OK)
@@ -196,27 +175,18 @@ func sameImage(a, b api.Image) bool {
 	sameEntry := func(x, y api.Entry) bool {
 		return x.Id == y.Id && pat.Same(x.Q, y.Q) && x.From == y.From && x.To == y.To
 	}
-	sameBound := func(x, y api.Bound) bool { return x.Var == y.Var && event.Same(x.E, y.E) }
-	sameSaved := func(x, y api.Saved) bool {
-		return x.State == y.State && slices.Equal(x.Pairs, y.Pairs) && slices.EqualFunc(x.Env, y.Env, sameBound) &&
-			x.First == y.First && x.Last == y.Last && x.Blocked == y.Blocked
-	}
-	sameSlot := func(x, y api.Slot) bool {
-		return x.Key == y.Key && x.Place == y.Place && slices.EqualFunc(x.Runs, y.Runs, sameSaved)
-	}
 	return a.Mark == b.Mark && a.Closed == b.Closed && slices.EqualFunc(a.Entries, b.Entries, sameEntry) &&
-		slices.EqualFunc(a.Events, b.Events, event.Same) && slices.EqualFunc(a.Slots, b.Slots, sameSlot)
+		slices.EqualFunc(a.Events, b.Events, event.Same) && slices.EqualFunc(a.Slots, b.Slots, sample.SameSlot)
 }
 
 // image is an engine as it is kept elsewhere, with one of all that there may be.
-func image(t *testing.T) api.Image {
-	t.Helper()
+func image() api.Image {
 	a := at("A", "k", 3, 2)
 	return api.Image{
 		Mark: 4,
 		Entries: []api.Entry{
-			{Id: "p", Q: read(t, "SEQ(A a, !C n, B b) WITHIN 9"), From: 1, To: 7},
-			{Id: "q", Q: read(t, "SEQ(B b) WITHIN 9"), From: 5},
+			{Id: "p", Q: sample.Query("SEQ(A a, !C n, B b) WITHIN 9"), From: 1, To: 7},
+			{Id: "q", Q: sample.Query("SEQ(B b) WITHIN 9"), From: 5},
 		},
 		Events: []api.Event{at("B", "k", 6, 6), at("B", "k", 6, 8)},
 		Slots: []api.Slot{{Key: "k", Runs: []api.Saved{
@@ -226,23 +196,23 @@ func image(t *testing.T) api.Image {
 }
 
 func TestSave(t *testing.T) {
-	x := engine.New(types(t))
+	x := engine.New(sample.Schema())
 	if got := x.Save(); !sameImage(got, api.Image{Mark: -1}) {
 		t.Errorf("got %v", got)
 	}
-	take(t, x, register(t, 1, "p", "SEQ(A a, !C n, B b) WITHIN 9"), api.OK)
+	take(t, x, register(1, "p", "SEQ(A a, !C n, B b) WITHIN 9"), api.OK)
 	take(t, x, put(at("A", "k", 3, 2)), api.OK)
 	take(t, x, put(at("B", "l", 3, 3)), api.OK)
 	take(t, x, advance(4), api.OK)
-	take(t, x, register(t, 5, "q", "SEQ(B b) WITHIN 9"), api.OK)
+	take(t, x, register(5, "q", "SEQ(B b) WITHIN 9"), api.OK)
 	take(t, x, put(at("B", "k", 6, 8)), api.OK)
 	take(t, x, put(at("B", "k", 6, 6)), api.OK)
 	take(t, x, unregister(7, "p"), api.OK)
-	if got := x.Save(); !sameImage(got, image(t)) {
+	if got := x.Save(); !sameImage(got, image()) {
 		t.Errorf("got %v", got)
 	}
 	take(t, x, end(), api.OK)
-	want := image(t)
+	want := image()
 	want.Closed = true
 	if got := x.Save(); !sameImage(got, want) {
 		t.Errorf("got %v", got)
@@ -250,17 +220,17 @@ func TestSave(t *testing.T) {
 }
 
 func TestLoad(t *testing.T) {
-	x, e := engine.Load(types(t), image(t))
-	if e != api.OK || !sameImage(x.Save(), image(t)) {
+	x, e := engine.Load(sample.Schema(), image())
+	if e != api.OK || !sameImage(x.Save(), image()) {
 		t.Fatalf("got %d, %v", e, x.Save())
 	}
 	check(t, x, 4, 2, 1, false)
 	take(t, x, put(at("A", "k", 4, 9)), api.ErrLate)
 	take(t, x, unregister(8, "p"), api.ErrNone)
 	take(t, x, advance(6), api.OK, "p 'k' 6/6 0:2 2:6 by 0", "q 'k' 6/6 0:6 by 1", "q 'k' 6/8 0:8 by 1")
-	closed := image(t)
+	closed := image()
 	closed.Closed = true
-	y, e := engine.Load(types(t), closed)
+	y, e := engine.Load(sample.Schema(), closed)
 	if e != api.OK {
 		t.Fatalf("got %d", e)
 	}
@@ -292,9 +262,9 @@ func TestLoadErrors(t *testing.T) {
 		{"no name ahead of what has passed", func(i *api.Image) { i.Entries[0].Id, i.Events[0].Time = "", 0 }, api.ErrKey},
 	}
 	for _, c := range cases {
-		i := image(t)
+		i := image()
 		c.change(&i)
-		x, e := engine.Load(types(t), i)
+		x, e := engine.Load(sample.Schema(), i)
 		if e != c.want || (x == nil) != (e != api.OK) {
 			t.Errorf("%s: got %d", c.name, e)
 		}
@@ -303,14 +273,14 @@ func TestLoadErrors(t *testing.T) {
 
 func TestOfNone(t *testing.T) {
 	var none *engine.Engine
-	for _, m := range []api.Msg{{}, end(), put(at("A", "k", 5, 1)), advance(5), register(t, 1, "p", "SEQ(A a) WITHIN 9")} {
+	for _, m := range []api.Msg{{}, end(), put(at("A", "k", 5, 1)), advance(5), register(1, "p", "SEQ(A a) WITHIN 9")} {
 		take(t, none, m, api.ErrInput)
 	}
 	if none.Mark() != (mark.Mark{}) || none.Kept() != 0 || !none.Closed() || none.Live() != 0 || !none.Within() || !sameImage(none.Save(), api.Image{}) {
 		t.Errorf("none has something: %v", none.Save())
 	}
 	for _, x := range []*engine.Engine{{}, engine.New(nil)} {
-		for _, m := range []api.Msg{put(at("A", "k", 5, 1)), register(t, 2, "p", "SEQ(A a) WITHIN 9"), put(at("A", "k", 5, 3)), unregister(4, "p"), advance(5), end()} {
+		for _, m := range []api.Msg{put(at("A", "k", 5, 1)), register(2, "p", "SEQ(A a) WITHIN 9"), put(at("A", "k", 5, 3)), unregister(4, "p"), advance(5), end()} {
 			x.Take(m)
 		}
 		check(t, x, 5, 0, 0, true)
@@ -319,8 +289,8 @@ func TestOfNone(t *testing.T) {
 }
 
 func TestIsTheCallers(t *testing.T) {
-	x := engine.New(types(t))
-	r, a := register(t, 1, "p", "SEQ(A a, B b) WHERE b: b.x = a.x WITHIN 9"), put(at("A", "k", 5, 2))
+	x := engine.New(sample.Schema())
+	r, a := register(1, "p", "SEQ(A a, B b) WHERE b: b.x = a.x WITHIN 9"), put(at("A", "k", 5, 2))
 	take(t, x, r, api.OK)
 	take(t, x, a, api.OK)
 	r.Q.Elems[0].Types[0], r.Q.Elems[1].Pred[0] = "Z", api.Node{}
@@ -328,7 +298,7 @@ func TestIsTheCallers(t *testing.T) {
 	take(t, x, advance(5), api.OK)
 	take(t, x, put(at("B", "k", 6, 5)), api.OK)
 	i := x.Save()
-	y, _ := engine.Load(types(t), i)
+	y, _ := engine.Load(sample.Schema(), i)
 	if !sameImage(i, x.Save()) {
 		t.Errorf("what was handed in was changed: %v", i)
 	}

@@ -3,60 +3,30 @@ package engine_test
 import (
 	"slices"
 	"strconv"
-	"strings"
 	"testing"
 
 	"lamplighter/api"
 	"lamplighter/emit"
 	"lamplighter/engine"
 	"lamplighter/event"
+	"lamplighter/sample"
 	"lamplighter/schema"
 	"lamplighter/table"
 	"lamplighter/truth"
 )
 
-// dice draws numbers by a rule.
-type dice uint64
-
-func (d *dice) below(n int) int {
-	*d = *d*2862933555777941757 + 3037000493
-	return int(*d >> 35 % dice(n))
-}
-
-func (d *dice) pick(l ...string) string { return l[d.below(len(l))] }
-
-// text draws the text of a query that may be, of one to three elements.
-func (d *dice) text(room int) string {
-	names := []string{"a", "b", "c"}[:1+d.below(3)]
-	var elems []string
-	for i, name := range names {
-		not, often := "", d.pick("", "", "{1,2}", "{2,3}")
-		if i == 1 && len(names) == 3 && d.below(2) == 0 {
-			not, often = "!", ""
-		}
-		elems = append(elems, not+d.pick("A", "B", "C", "(A|B)", "(A|B|C)")+" "+name+often)
-	}
-	s := "SEQ(" + strings.Join(elems, ", ") + ")"
-	if d.below(2) == 0 {
-		s += " WHERE a: a.x " + d.pick("=", "!=", "<") + " " + d.pick("1", "2")
-	}
-	return s + " WITHIN " + strconv.Itoa(1+d.below(12)) + " CAP " + strconv.Itoa(room)
-}
-
 // message draws a message under a number, around a time.
-func (d *dice) message(t *testing.T, ticket, time int64, room int) api.Msg {
-	if ticket == 1 {
-		return register(t, ticket, "p", d.text(room))
+func message(d *sample.Dice, ticket, time int64, room int) api.Msg {
+	kind := d.Below(8)
+	switch {
+	case ticket == 1 || kind == 0:
+		return register(ticket, d.Pick("p", "q", "r"), d.Query(5)+" CAP "+strconv.Itoa(room))
+	case kind == 1:
+		return unregister(ticket, d.Pick("p", "q", "r"))
+	case kind == 2:
+		return advance(time + int64(d.Below(5)))
 	}
-	switch d.below(8) {
-	case 0:
-		return advance(time + int64(d.below(5)))
-	case 1:
-		return register(t, ticket, d.pick("p", "q", "r"), d.text(room))
-	case 2:
-		return unregister(ticket, d.pick("p", "q", "r"))
-	}
-	return put(at(d.pick("A", "B", "C"), d.pick("k", "l"), time+int64(d.below(9))-2, ticket))
+	return put(at(d.Pick("A", "B", "C"), d.Pick("k", "l"), time+int64(d.Below(9))-2, ticket))
 }
 
 // model is what an engine should know: all events and queries that it took, and up to when all is known.
@@ -124,19 +94,19 @@ func (x *model) seen(q api.Entry, e api.Event) []api.Event {
 
 // TestAllIsTold holds that an engine tells all matches of the events that its queries see, each when it is known, in one order; and that it may be kept elsewhere at any time.
 func TestAllIsTold(t *testing.T) {
-	s, d := types(t), dice(1)
+	s, d := sample.Schema(), sample.Dice(1)
 	told := 0
-	for range 600 {
+	for range 1000 {
 		x, kept, y := engine.New(s), engine.New(s), &model{s: s, mark: -1}
-		for ticket := range int64(40) {
-			m := d.message(t, ticket+1, max(y.mark, 0), api.MaxCap)
+		for ticket := range int64(30) {
+			m := message(&d, ticket+1, max(y.mark, 0), api.MaxCap)
 			want := y.take(m)
 			got, e := x.Take(m)
 			if !emit.SameAll(got, want) || !emit.Strict(got) || !x.Within() || x.Mark().At() != y.mark {
-				t.Fatalf("%v: got %d, %v, want %v", m, e, got, want)
+				t.Fatalf("%v: got %d, %d things, want %d", m, e, len(got), len(want))
 			}
 			if other, too := kept.Take(m); !emit.SameAll(other, got) || too != e {
-				t.Fatalf("kept elsewhere: got %v, want %v", other, got)
+				t.Fatalf("kept elsewhere: %v: got %d, %d things, want %d", m, too, len(other), len(got))
 			}
 			i := kept.Save()
 			if !sameImage(i, x.Save()) {
@@ -148,20 +118,20 @@ func TestAllIsTold(t *testing.T) {
 			told += len(got)
 		}
 	}
-	if told < 2000 {
+	if told < 1000 {
 		t.Errorf("only %d were drawn", told)
 	}
 }
 
 // TestFewRuns holds that with little room what is told are such matches, each once, and that runs were lost.
 func TestFewRuns(t *testing.T) {
-	s, d := types(t), dice(2)
+	s, d := sample.Schema(), sample.Dice(2)
 	losses := 0
 	for range 300 {
 		x, y := engine.New(s), &model{s: s, mark: -1}
 		var got, want []api.Out
-		for ticket := range int64(40) {
-			m := d.message(t, ticket+1, max(y.mark, 0), 1+d.below(3))
+		for ticket := range int64(30) {
+			m := message(&d, ticket+1, max(y.mark, 0), 1+d.Below(3))
 			want = append(want, y.take(m)...)
 			l, _ := x.Take(m)
 			got = append(got, l...)

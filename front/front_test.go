@@ -11,23 +11,13 @@ import (
 	"lamplighter/event"
 	"lamplighter/front"
 	"lamplighter/pat"
-	"lamplighter/schema"
+	"lamplighter/sample"
 	"lamplighter/show"
 	"lamplighter/value"
 )
 
-func types(t *testing.T) *schema.Schema {
-	t.Helper()
-	x := []api.Field{{Name: "x", Kind: api.Int}}
-	s, e := schema.New([]api.Type{{Name: "A", Fields: x}, {Name: "B", Fields: x}})
-	if e != api.OK {
-		t.Fatalf("the schema: %d", e)
-	}
-	return s
-}
-
 func at(kind, key string, time int64) api.Event {
-	return api.Event{Type: kind, Key: key, Time: time, Vals: []api.Value{value.Num(7)}}
+	return sample.Event(kind, key, time, 0, 7)
 }
 
 // The calls.
@@ -95,7 +85,7 @@ func numbered(e api.Event, seq int64) api.Event {
 }
 
 func TestExample(t *testing.T) {
-	f := front.New(types(t))
+	f := front.New(sample.Schema())
 	check(t, f, state{mark: -1})
 	for want := range int64(2) {
 		if m, e := f.Admit(publish(at("A", "k", 5))); m.Ticket != want+1 || e != api.OK {
@@ -106,7 +96,7 @@ func TestExample(t *testing.T) {
 }
 
 func TestAdmit(t *testing.T) {
-	s := types(t)
+	s := sample.Schema()
 	f := front.New(s)
 	q, _ := show.Read(s, text)
 	admit(t, f, register("p", text), api.Msg{Kind: api.MsgRegister, Ticket: 1, Id: "p", Q: q})
@@ -127,7 +117,7 @@ func TestAdmit(t *testing.T) {
 
 // TestWhatIsNotAsked holds that of a call only what it is of counts.
 func TestWhatIsNotAsked(t *testing.T) {
-	f := front.New(types(t))
+	f := front.New(sample.Schema())
 	for i, seq := range []int64{-1, 99, math.MinInt64, math.MaxInt64} {
 		e := at("A", "k", 5)
 		e.Seq = seq
@@ -150,7 +140,7 @@ func TestWhatIsNotAsked(t *testing.T) {
 }
 
 func TestRefusedEvents(t *testing.T) {
-	f := front.New(types(t))
+	f := front.New(sample.Schema())
 	admit(t, f, advance(5), api.Msg{Kind: api.MsgAdvance, Ticket: 1, T: 5})
 	short, odd := at("A", "k", 6), at("A", "k", 6)
 	short.Vals, odd.Vals = nil, []api.Value{value.Text("a")}
@@ -170,7 +160,7 @@ func TestRefusedEvents(t *testing.T) {
 }
 
 func TestRefusedAdvances(t *testing.T) {
-	f := front.New(types(t))
+	f := front.New(sample.Schema())
 	refuse(t, f, advance(-1), api.ErrTime)
 	refuse(t, f, advance(api.MaxTime+1), api.ErrTime)
 	admit(t, f, advance(0), api.Msg{Kind: api.MsgAdvance, Ticket: 1})
@@ -182,7 +172,7 @@ func TestRefusedAdvances(t *testing.T) {
 }
 
 func TestRefusedQueries(t *testing.T) {
-	f := front.New(types(t))
+	f := front.New(sample.Schema())
 	refuse(t, f, register("p", "SEQ(A a)"), api.ErrForm)
 	refuse(t, f, register("p", "SEQ(A a) WHERE b: true WITHIN 9"), api.ErrNone)
 	refuse(t, f, register("p", "SEQ(Z a) WITHIN 9"), api.ErrType)
@@ -208,7 +198,7 @@ func TestRefusedQueries(t *testing.T) {
 }
 
 func TestOthers(t *testing.T) {
-	f := front.New(types(t))
+	f := front.New(sample.Schema())
 	for _, kind := range []int{0, api.CallStats, 8, -1, math.MaxInt, math.MinInt} {
 		refuse(t, f, api.Call{Kind: kind, E: at("A", "k", 5), T: 5, Id: "p", Text: text}, api.ErrInput)
 	}
@@ -261,7 +251,7 @@ func TestOfNone(t *testing.T) {
 }
 
 func TestIsTheCallers(t *testing.T) {
-	s := types(t)
+	s := sample.Schema()
 	f := front.New(s)
 	c := publish(at("A", "k", 5))
 	m, _ := f.Admit(c)

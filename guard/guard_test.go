@@ -8,37 +8,17 @@ import (
 	"lamplighter/event"
 	"lamplighter/guard"
 	"lamplighter/pat"
-	"lamplighter/ppat"
 	"lamplighter/run"
+	"lamplighter/sample"
 	"lamplighter/schema"
-	"lamplighter/value"
 )
 
-func types(t *testing.T) *schema.Schema {
-	t.Helper()
-	x := []api.Field{{Name: "x", Kind: api.Int}}
-	s, e := schema.New([]api.Type{{Name: "A", Fields: x}, {Name: "B", Fields: x}, {Name: "C", Fields: x}})
-	if e != api.OK {
-		t.Fatalf("the schema: %d", e)
-	}
-	return s
-}
-
-func read(t *testing.T, text string) api.Query {
-	t.Helper()
-	q, e := ppat.Parse(text)
-	if e != api.OK {
-		t.Fatalf("%s: %d", text, e)
-	}
-	return q
-}
-
 func at(kind string, x int64) api.Event {
-	return api.Event{Type: kind, Key: "k", Time: 5, Seq: x, Vals: []api.Value{value.Num(x)}}
+	return sample.Event(kind, "k", 5, x, x)
 }
 
 func TestExample(t *testing.T) {
-	s, q := types(t), read(t, "SEQ(A a, !B b, C c) WITHIN 9")
+	s, q := sample.Schema(), sample.Query("SEQ(A a, !B b, C c) WITHIN 9")
 	r := run.Run{}.With(q, 1, 0, at("A", 1))
 	for kind, want := range map[string]bool{"A": false, "B": true, "C": false, "D": false, "": false} {
 		if got := guard.Blocks(s, q, r, at(kind, 2)); got != want {
@@ -51,8 +31,8 @@ func TestExample(t *testing.T) {
 }
 
 func TestFits(t *testing.T) {
-	s := types(t)
-	q := read(t, "SEQ(A a, !(A|B) n, C c{1,2}, (B|C) d) WHERE a: a.x > 1; n: n.x = a.x + 2; d: d.x > a.x WITHIN 9")
+	s := sample.Schema()
+	q := sample.Query("SEQ(A a, !(A|B) n, C c{1,2}, (B|C) d) WHERE a: a.x > 1; n: n.x = a.x + 2; d: d.x > a.x WITHIN 9")
 	none := run.Run{}
 	a := none.With(q, 1, 0, at("A", 5))
 	c := a.With(q, 2, 2, at("C", 7))
@@ -96,7 +76,7 @@ func TestFits(t *testing.T) {
 
 // TestOnceAlone holds that variables that may stand for more than one event stand for none in others' predicates.
 func TestOnceAlone(t *testing.T) {
-	s, q := types(t), read(t, "SEQ(A a{1,2}, B b) WHERE b: b.x > a.x WITHIN 9")
+	s, q := sample.Schema(), sample.Query("SEQ(A a{1,2}, B b) WHERE b: b.x > a.x WITHIN 9")
 	r := run.Run{}.With(q, 1, 0, at("A", 1))
 	if guard.Fits(s, q, r, 1, at("B", 5)) {
 		t.Error("it fits")
@@ -105,7 +85,7 @@ func TestOnceAlone(t *testing.T) {
 
 // TestItsOwnVariable holds that an element's variable stands for the event, though another one of its name is ahead.
 func TestItsOwnVariable(t *testing.T) {
-	s, q := types(t), read(t, "SEQ(A a, B b) WHERE b: b.x = 2 WITHIN 9")
+	s, q := sample.Schema(), sample.Query("SEQ(A a, B b) WHERE b: b.x = 2 WITHIN 9")
 	q.Elems[0].Var = "b"
 	r := run.Run{}.With(q, 1, 0, at("A", 1))
 	if !guard.Fits(s, q, r, 1, at("B", 2)) || guard.Fits(s, q, r, 1, at("B", 1)) {
@@ -115,8 +95,8 @@ func TestItsOwnVariable(t *testing.T) {
 
 // TestBlocks holds that all between a run's element and the next one that must be there block, and no others.
 func TestBlocks(t *testing.T) {
-	s := types(t)
-	q := read(t, "SEQ(A a, !B n, !C o, A c{1,2}, !B p, A d) WHERE o: o.x = a.x; p: p.x > 3 WITHIN 9")
+	s := sample.Schema()
+	q := sample.Query("SEQ(A a, !B n, !C o, A c{1,2}, !B p, A d) WHERE o: o.x = a.x; p: p.x > 3 WITHIN 9")
 	a := run.Run{}.With(q, 1, 0, at("A", 5))
 	c := a.With(q, 2, 3, at("A", 6))
 	d := c.With(q, 4, 5, at("A", 7))
@@ -147,14 +127,14 @@ func TestBlocks(t *testing.T) {
 		t.Error("what stands behind no element blocks")
 	}
 	// Without elements that must be there, all stand ahead of the first.
-	first := read(t, "SEQ(!B n, A a) WITHIN 9")
+	first := sample.Query("SEQ(!B n, A a) WITHIN 9")
 	if guard.Blocks(s, first, run.Run{}, at("B", 0)) {
 		t.Error("what stands ahead of the first element blocks what has no pairs")
 	}
 }
 
 func TestOfNoSchema(t *testing.T) {
-	q := read(t, "SEQ(A a, !B n, C c) WHERE c: c.x = 2 WITHIN 9")
+	q := sample.Query("SEQ(A a, !B n, C c) WHERE c: c.x = 2 WITHIN 9")
 	r := run.Run{}.With(q, 1, 0, at("A", 5))
 	for _, s := range []*schema.Schema{nil, {}} {
 		if guard.Fits(s, q, r, 2, at("C", 2)) || !guard.Fits(s, q, r, 0, at("A", 2)) || !guard.Blocks(s, q, r, at("B", 1)) {
@@ -165,13 +145,13 @@ func TestOfNoSchema(t *testing.T) {
 
 func TestNothingIsChanged(t *testing.T) {
 	const text = "SEQ(A a, !B n, C c) WHERE n: n.x = a.x WITHIN 9"
-	s, q, e := types(t), read(t, text), at("B", 5)
+	s, q, e := sample.Schema(), sample.Query(text), at("B", 5)
 	r := run.Run{}.With(q, 1, 0, at("A", 5))
 	want := r.Save()
 	if !guard.Blocks(s, q, r, e) || !guard.Fits(s, q, r, 1, e) || !guard.Blocks(s, q, r, e) {
 		t.Error("it does not block")
 	}
-	if !pat.Same(q, read(t, text)) || !event.Same(e, at("B", 5)) || !run.Same(r, run.Load(want)) || !event.Same(r.Env()[0].E, at("A", 5)) {
+	if !pat.Same(q, sample.Query(text)) || !event.Same(e, at("B", 5)) || !run.Same(r, run.Load(want)) || !event.Same(r.Env()[0].E, at("A", 5)) {
 		t.Errorf("something was changed: %v, %v, %v", q, e, r.Save())
 	}
 }

@@ -9,37 +9,20 @@ import (
 	"lamplighter/event"
 	"lamplighter/keys"
 	"lamplighter/match"
-	"lamplighter/ppat"
-	"lamplighter/schema"
+	"lamplighter/sample"
 	"lamplighter/table"
 	"lamplighter/value"
 )
 
-func types(t *testing.T) *schema.Schema {
-	t.Helper()
-	x := []api.Field{{Name: "x", Kind: api.Int}}
-	s, e := schema.New([]api.Type{{Name: "A", Fields: x}, {Name: "B", Fields: x}, {Name: "C", Fields: x}})
-	if e != api.OK {
-		t.Fatalf("the schema: %d", e)
-	}
-	return s
-}
-
-func read(t *testing.T, text string) api.Query {
-	t.Helper()
-	q, e := ppat.Parse(text)
-	if e != api.OK {
-		t.Fatalf("%s: %d", text, e)
-	}
-	return q
-}
+// pairs is a list of pairs, from elements and numbers that take turns.
+var pairs = sample.Pairs
 
 // of is a table of queries' texts, by the names p, q, .., under the numbers 1, 2, ..
 func of(t *testing.T, texts ...string) *table.Table {
 	t.Helper()
 	x := table.New()
 	for i, text := range texts {
-		if e := x.Register(string(rune('p'+i)), read(t, text), int64(i+1)); e != api.OK {
+		if e := x.Register(string(rune('p'+i)), sample.Query(text), int64(i+1)); e != api.OK {
 			t.Fatalf("%s: %d", text, e)
 		}
 	}
@@ -47,15 +30,7 @@ func of(t *testing.T, texts ...string) *table.Table {
 }
 
 func at(kind, key string, seq int64) api.Event {
-	return api.Event{Type: kind, Key: key, Time: 10 * seq, Seq: seq, Vals: []api.Value{value.Num(seq)}}
-}
-
-func pairs(l ...int64) []api.Pair {
-	var m []api.Pair
-	for i := 0; i+1 < len(l); i += 2 {
-		m = append(m, api.Pair{Elem: int(l[i]), Seq: l[i+1]})
-	}
-	return m
+	return sample.Event(kind, key, 10*seq, seq, seq)
 }
 
 // told is what is told of a query by an event: a match, or, without pairs, that runs were lost.
@@ -89,7 +64,7 @@ func live(t *testing.T, k *keys.Keys, many, most, all int) {
 }
 
 func TestExample(t *testing.T) {
-	k, x := keys.New(types(t)), of(t, "SEQ(A a, B b) WITHIN 900")
+	k, x := keys.New(sample.Schema()), of(t, "SEQ(A a, B b) WITHIN 900")
 	live(t, k, 0, 0, 0)
 	feed(t, k, x, at("A", "k", 3))
 	feed(t, k, x, at("A", "l", 4))
@@ -105,7 +80,7 @@ func TestExample(t *testing.T) {
 
 // TestByPlaces holds that queries are fed by their places, each of which tells its matches, then that runs were lost.
 func TestByPlaces(t *testing.T) {
-	k := keys.New(types(t))
+	k := keys.New(sample.Schema())
 	x := of(t, "SEQ(A a{1,2}, A b) WITHIN 900 CAP 2", "SEQ(B b) WITHIN 900", "SEQ((A|B) c) WITHIN 900")
 	a := at("A", "k", 4)
 	feed(t, k, x, a, told(2, a, pairs(0, 4)))
@@ -120,8 +95,8 @@ func TestByPlaces(t *testing.T) {
 
 // TestWhoSees holds that only queries that see an event are fed, and that a key is there when something was fed for it.
 func TestWhoSees(t *testing.T) {
-	k, x := keys.New(types(t)), table.New()
-	x.Register("p", read(t, "SEQ(A a, B b) WITHIN 900"), 3)
+	k, x := keys.New(sample.Schema()), table.New()
+	x.Register("p", sample.Query("SEQ(A a, B b) WITHIN 900"), 3)
 	for seq := range int64(4) {
 		feed(t, k, x, at("A", "k", seq))
 	}
@@ -135,7 +110,7 @@ func TestWhoSees(t *testing.T) {
 	b := at("B", "k", 5)
 	feed(t, k, x, b, told(0, b, pairs(0, 4, 1, 5)))
 	// Of the same name, and another place: it has seen nothing yet.
-	x.Register("p", read(t, "SEQ(A a, B b) WITHIN 900"), 8)
+	x.Register("p", sample.Query("SEQ(A a, B b) WITHIN 900"), 8)
 	feed(t, k, x, at("B", "k", 9))
 	feed(t, k, x, at("A", "k", 10))
 	live(t, k, 1, 1, 2)
@@ -147,7 +122,7 @@ func TestWhoSees(t *testing.T) {
 
 // TestMaxKeys holds that where there are MaxKeys nothing is told of others.
 func TestMaxKeys(t *testing.T) {
-	k, x := keys.New(types(t)), of(t, "SEQ(A a{1,2}) WITHIN 90000 CAP 1")
+	k, x := keys.New(sample.Schema()), of(t, "SEQ(A a{1,2}) WITHIN 90000 CAP 1")
 	for i := range int64(api.MaxKeys) {
 		a := at("A", "k"+strconv.Itoa(int(i)), 2+i)
 		feed(t, k, x, a, told(0, a, pairs(0, 2+i)))
@@ -159,13 +134,13 @@ func TestMaxKeys(t *testing.T) {
 	feed(t, k, x, a, told(0, a, pairs(0, 9, 0, 5001)), told(0, a, pairs(0, 5001)), told(0, a, nil))
 	slots := k.Save()
 	slots = append(slots, api.Slot{Key: "zz", Runs: slots[0].Runs})
-	loaded := keys.Load(types(t), x, slots)
+	loaded := keys.Load(sample.Schema(), x, slots)
 	live(t, loaded, api.MaxKeys, 1, api.MaxKeys)
 	feed(t, loaded, x, at("A", "z", 5002))
 }
 
 func TestWithin(t *testing.T) {
-	k, x := keys.New(types(t)), of(t, "SEQ(A a, B b) WITHIN 900 CAP 5", "SEQ(B a, B b) WITHIN 900 CAP 3")
+	k, x := keys.New(sample.Schema()), of(t, "SEQ(A a, B b) WITHIN 900 CAP 5", "SEQ(B a, B b) WITHIN 900 CAP 3")
 	if !k.Within(x) || !k.Within(nil) {
 		t.Error("what has no keys is not within")
 	}
@@ -185,17 +160,6 @@ func TestWithin(t *testing.T) {
 	}
 }
 
-func sameBound(a, b api.Bound) bool { return a.Var == b.Var && event.Same(a.E, b.E) }
-
-func sameSaved(a, b api.Saved) bool {
-	return a.State == b.State && slices.Equal(a.Pairs, b.Pairs) && slices.EqualFunc(a.Env, b.Env, sameBound) &&
-		a.First == b.First && a.Last == b.Last && a.Blocked == b.Blocked
-}
-
-func sameSlot(a, b api.Slot) bool {
-	return a.Key == b.Key && a.Place == b.Place && slices.EqualFunc(a.Runs, b.Runs, sameSaved)
-}
-
 // begun is an a of a query with room for more, as it is kept elsewhere.
 func begun(e api.Event) api.Saved {
 	return api.Saved{State: 1, Pairs: pairs(0, e.Seq), Env: []api.Bound{{Var: "a", E: e}}, First: e.Time, Last: api.Stamp{Time: e.Time, Seq: e.Seq}}
@@ -203,14 +167,14 @@ func begun(e api.Event) api.Saved {
 
 func checkSave(t *testing.T, k *keys.Keys, want ...api.Slot) {
 	t.Helper()
-	if got := k.Save(); !slices.EqualFunc(got, want, sameSlot) {
+	if got := k.Save(); !slices.EqualFunc(got, want, sample.SameSlot) {
 		t.Errorf("got %v, want %v", got, want)
 	}
 }
 
 // TestSaveAndLoad holds that matchers that keep something are kept, by keys, then places, and go on as they were.
 func TestSaveAndLoad(t *testing.T) {
-	s := types(t)
+	s := sample.Schema()
 	k, x := keys.New(s), of(t, "SEQ(A a, B b) WITHIN 900", "SEQ(C a, B b) WITHIN 900", "SEQ((A|C) a, B b) WITHIN 900 CAP 1")
 	checkSave(t, k)
 	for i, e := range []string{"A", "C", "C", "B"} {
@@ -242,7 +206,7 @@ func TestSaveAndLoad(t *testing.T) {
 
 // TestLoadOthers holds that of places that there are not nothing is loaded, and no more than Cap of others.
 func TestLoadOthers(t *testing.T) {
-	s, x := types(t), of(t, "SEQ(A a, B b) WITHIN 900 CAP 2")
+	s, x := sample.Schema(), of(t, "SEQ(A a, B b) WITHIN 900 CAP 2")
 	a := begun(at("A", "k", 5))
 	for _, place := range []int{-1, 1, 16, 1 << 40} {
 		k := keys.Load(s, x, []api.Slot{{Key: "k", Place: place, Runs: []api.Saved{a}}})
@@ -260,22 +224,18 @@ func TestLoadOthers(t *testing.T) {
 
 // TestEachOfItsOwn holds that each key and place has a matcher of its own, whatever comes between.
 func TestEachOfItsOwn(t *testing.T) {
-	s := types(t)
+	s := sample.Schema()
 	texts := []string{"SEQ(A a, B b) WITHIN 90 CAP 2", "SEQ(A a{1,3}, !C n, B b) WHERE b: b.x > 7 WITHIN 200 CAP 4", "SEQ((A|B|C) a, (B|C) c) WITHIN 40"}
 	k, x := keys.New(s), of(t, texts...)
 	alone := map[string][]*match.Matcher{}
 	for _, key := range []string{"k", "l", "m"} {
 		for _, text := range texts {
-			alone[key] = append(alone[key], match.New(s, read(t, text)))
+			alone[key] = append(alone[key], match.New(s, sample.Query(text)))
 		}
 	}
-	d := uint64(1)
-	below := func(n int) int {
-		d = d*2862933555777941757 + 3037000493
-		return int(d >> 35 % uint64(n))
-	}
+	d := sample.Dice(1)
 	for seq := range int64(500) {
-		e := at("ABC"[below(3):][:1], "klm"[below(3):][:1], seq+4)
+		e := at(d.Pick("A", "B", "C"), d.Pick("k", "l", "m"), seq+4)
 		var want []api.Out
 		for place, m := range alone[e.Key] {
 			matches, lost := m.Feed(e)
@@ -310,12 +270,12 @@ func TestOfNone(t *testing.T) {
 }
 
 func TestIsTheCallers(t *testing.T) {
-	s, x, a := types(t), of(t, "SEQ(A a, B b) WHERE b: b.x > a.x WITHIN 900"), at("A", "k", 5)
+	s, x, a := sample.Schema(), of(t, "SEQ(A a, B b) WHERE b: b.x > a.x WITHIN 900"), at("A", "k", 5)
 	k := keys.New(s)
 	k.Feed(x, a)
 	slots := k.Save()
 	loaded := keys.Load(s, x, slots)
-	if !event.Same(a, at("A", "k", 5)) || !sameSlot(slots[0], k.Save()[0]) {
+	if !event.Same(a, at("A", "k", 5)) || !sample.SameSlot(slots[0], k.Save()[0]) {
 		t.Errorf("what was handed in was changed: %v, %v", a, slots)
 	}
 	a.Vals[0] = value.Num(77)

@@ -12,23 +12,13 @@ import (
 	"lamplighter/event"
 	"lamplighter/front"
 	"lamplighter/machine"
-	"lamplighter/schema"
+	"lamplighter/sample"
 	"lamplighter/value"
 )
 
-func types(t *testing.T) *schema.Schema {
-	t.Helper()
-	x := []api.Field{{Name: "x", Kind: api.Int}}
-	s, e := schema.New([]api.Type{{Name: "A", Fields: x}, {Name: "B", Fields: x}})
-	if e != api.OK {
-		t.Fatalf("the schema: %d", e)
-	}
-	return s
-}
-
 // The calls.
 func publish(kind, key string, time int64) api.Call {
-	return api.Call{Kind: api.CallPublish, E: api.Event{Type: kind, Key: key, Time: time, Vals: []api.Value{value.Num(7)}}}
+	return api.Call{Kind: api.CallPublish, E: sample.Event(kind, key, time, 0, 7)}
 }
 
 func try(kind, key string, time int64) api.Call {
@@ -81,7 +71,7 @@ func counted(t *testing.T, m *machine.Machine, want ...int64) {
 }
 
 func TestExample(t *testing.T) {
-	m := machine.New(types(t))
+	m := machine.New(sample.Schema())
 	do(t, m, advance(5), 1, api.OK)
 	do(t, m, publish("A", "k", 5), 0, api.ErrLate)
 	counted(t, m, 0, 1, 0, 1, 0, 0)
@@ -89,7 +79,7 @@ func TestExample(t *testing.T) {
 
 // TestExamplesOfTheWhole holds those of the document that are of one machine.
 func TestExamplesOfTheWhole(t *testing.T) {
-	m := machine.New(types(t))
+	m := machine.New(sample.Schema())
 	do(t, m, register("p", "SEQ(A a, B b) WITHIN 5"), 1, api.OK)
 	do(t, m, publish("A", "k", 1), 2, api.OK)
 	do(t, m, publish("A", "k", 2), 3, api.OK)
@@ -107,7 +97,7 @@ func TestExamplesOfTheWhole(t *testing.T) {
 
 // TestCounted holds what is counted of each call, and that a call that is refused does nothing else.
 func TestCounted(t *testing.T) {
-	m := machine.New(types(t))
+	m := machine.New(sample.Schema())
 	counted(t, m, 0, 0, 0, 0, 0, 0)
 	do(t, m, publish("A", "k", 3), 1, api.OK)
 	do(t, m, try("A", "k", 4), 2, api.OK)
@@ -142,7 +132,7 @@ func TestCounted(t *testing.T) {
 
 // TestLost holds that where runs are lost that is told, and that no more are kept than there may be.
 func TestLost(t *testing.T) {
-	m := machine.New(types(t))
+	m := machine.New(sample.Schema())
 	do(t, m, register("p", "SEQ(A a, B b) WITHIN 9 CAP 1"), 1, api.OK)
 	for i := range int64(3) {
 		do(t, m, publish("A", "k", 3-i), i+2, api.OK)
@@ -157,7 +147,7 @@ func TestLost(t *testing.T) {
 
 // TestNoRoom holds that a call is taken though the engine has no room for its event any more.
 func TestNoRoom(t *testing.T) {
-	m := machine.New(types(t))
+	m := machine.New(sample.Schema())
 	do(t, m, register("p", "SEQ(A a) WITHIN 9"), 1, api.OK)
 	for i := range int64(api.MaxHeap) {
 		do(t, m, publish("B", "k", 9), i+2, api.OK)
@@ -170,27 +160,22 @@ func TestNoRoom(t *testing.T) {
 
 // TestAsFrontAndEngine holds that what is told is what the front and the engine tell, one behind the other.
 func TestAsFrontAndEngine(t *testing.T) {
-	s, d := types(t), uint64(1)
-	below := func(n int) int {
-		d = d*2862933555777941757 + 3037000493
-		return int(d >> 35 % uint64(n))
-	}
-	pick := func(l ...string) string { return l[below(len(l))] }
+	s, d := sample.Schema(), sample.Dice(1)
 	for range 100 {
 		m, f, x := machine.New(s), front.New(s), engine.New(s)
 		var log []api.Out
 		var counts [api.Counters]int64
 		for i := range 60 {
-			c := publish(pick("A", "B", "B", "Z"), pick("k", "l", ""), int64(i/2+below(9)-2))
-			switch below(8) {
+			c := publish(d.Pick("A", "B", "B", "Z"), d.Pick("k", "l", ""), int64(i/2+d.Below(9)-2))
+			switch d.Below(8) {
 			case 0:
-				c = advance(int64(i/2 + below(4) - 2))
+				c = advance(int64(i/2 + d.Below(4) - 2))
 			case 1:
-				c = register(pick("p", "q", "r", "and"), "SEQ("+pick("A", "(A|B)")+" a, "+pick("A", "B")+" b"+pick("", "{1,2}")+") WITHIN "+strconv.Itoa(below(9)))
+				c = register(d.Pick("p", "q", "r", "and"), "SEQ("+d.Pick("A", "(A|B)")+" a, "+d.Pick("A", "B")+" b"+d.Pick("", "{1,2}")+") WITHIN "+strconv.Itoa(d.Below(9)))
 			case 2:
-				c = unregister(pick("p", "q", "r"))
+				c = unregister(d.Pick("p", "q", "r"))
 			case 3:
-				c.Kind = api.CallTry + below(40)/39
+				c.Kind = api.CallTry + d.Below(40)/39
 			}
 			message, e := f.Admit(c)
 			l, _ := x.Take(message)
@@ -233,7 +218,7 @@ func TestOfNone(t *testing.T) {
 }
 
 func TestIsTheCallers(t *testing.T) {
-	m := machine.New(types(t))
+	m := machine.New(sample.Schema())
 	do(t, m, register("p", "SEQ(A a) WHERE a: a.x = 7 WITHIN 9"), 1, api.OK)
 	c := publish("A", "k", 3)
 	do(t, m, c, 2, api.OK)

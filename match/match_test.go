@@ -9,41 +9,15 @@ import (
 	"lamplighter/event"
 	"lamplighter/match"
 	"lamplighter/pat"
-	"lamplighter/ppat"
-	"lamplighter/schema"
+	"lamplighter/sample"
 	"lamplighter/value"
 )
 
-func types(t *testing.T) *schema.Schema {
-	t.Helper()
-	x := []api.Field{{Name: "x", Kind: api.Int}}
-	s, e := schema.New([]api.Type{{Name: "A", Fields: x}, {Name: "B", Fields: x}, {Name: "C", Fields: x}})
-	if e != api.OK {
-		t.Fatalf("the schema: %d", e)
-	}
-	return s
-}
-
-func read(t *testing.T, text string) api.Query {
-	t.Helper()
-	q, e := ppat.Parse(text)
-	if e != api.OK {
-		t.Fatalf("%s: %d", text, e)
-	}
-	return q
-}
+// pairs is a list of pairs, from elements and numbers that take turns.
+var pairs = sample.Pairs
 
 func at(kind string, time, seq, x int64) api.Event {
-	return api.Event{Type: kind, Key: "k", Time: time, Seq: seq, Vals: []api.Value{value.Num(x)}}
-}
-
-// pairs is pairs of elements and numbers.
-func pairs(l ...int64) []api.Pair {
-	var m []api.Pair
-	for i := 0; i+1 < len(l); i += 2 {
-		m = append(m, api.Pair{Elem: int(l[i]), Seq: l[i+1]})
-	}
-	return m
+	return sample.Event(kind, "k", time, seq, x)
 }
 
 func sameAll(a, b [][]api.Pair) bool { return slices.EqualFunc(a, b, slices.Equal[[]api.Pair]) }
@@ -59,7 +33,7 @@ type fed struct {
 // check feeds events, one behind the other, and holds what is told and kept.
 func check(t *testing.T, text string, l ...fed) {
 	t.Helper()
-	x := match.New(types(t), read(t, text))
+	x := match.New(sample.Schema(), sample.Query(text))
 	for _, f := range l {
 		matches, lost := x.Feed(f.e)
 		if !sameAll(matches, f.matches) || lost != f.lost {
@@ -155,17 +129,10 @@ func TestCap(t *testing.T) {
 		fed{at("B", 1, 2, 0), nil, false, nil})
 }
 
-func sameBound(a, b api.Bound) bool { return a.Var == b.Var && event.Same(a.E, b.E) }
-
-func sameSaved(a, b api.Saved) bool {
-	return a.State == b.State && slices.Equal(a.Pairs, b.Pairs) && slices.EqualFunc(a.Env, b.Env, sameBound) &&
-		a.First == b.First && a.Last == b.Last && a.Blocked == b.Blocked
-}
-
-func sameSaves(a, b []api.Saved) bool { return slices.EqualFunc(a, b, sameSaved) }
+func sameSaves(a, b []api.Saved) bool { return slices.EqualFunc(a, b, sample.SameSaved) }
 
 func TestSaveAndLoad(t *testing.T) {
-	s, q := types(t), read(t, "SEQ(A a, A b{1,2}, !C n, B c) WHERE c: c.x = a.x WITHIN 9 CAP 3")
+	s, q := sample.Schema(), sample.Query("SEQ(A a, A b{1,2}, !C n, B c) WHERE c: c.x = a.x WITHIN 9 CAP 3")
 	x := match.New(s, q)
 	if got := x.Save(); len(got) != 0 {
 		t.Errorf("got %v", got)
@@ -197,7 +164,7 @@ func TestSaveAndLoad(t *testing.T) {
 
 // TestLoadOthers holds that Cap runs at most are loaded, the first ones, and that any can be.
 func TestLoadOthers(t *testing.T) {
-	s, q := types(t), read(t, "SEQ(A a, B b) WITHIN 9 CAP 2")
+	s, q := sample.Schema(), sample.Query("SEQ(A a, B b) WITHIN 9 CAP 2")
 	var l []api.Saved
 	for i := range int64(4) {
 		l = append(l, api.Saved{State: 1, Pairs: pairs(0, i+1), First: 1})
@@ -233,7 +200,7 @@ func TestOfNone(t *testing.T) {
 	if len(matches) != 0 || lost || none.Live() != 0 || len(none.Runs()) != 0 || len(none.Save()) != 0 {
 		t.Errorf("got %v, %v", matches, lost)
 	}
-	for _, x := range []*match.Matcher{{}, match.New(nil, api.Query{}), match.New(types(t), api.Query{Cap: 5}), match.Load(nil, api.Query{Cap: 5}, nil)} {
+	for _, x := range []*match.Matcher{{}, match.New(nil, api.Query{}), match.New(sample.Schema(), api.Query{Cap: 5}), match.Load(nil, api.Query{Cap: 5}, nil)} {
 		matches, lost := x.Feed(at("A", 1, 1, 0))
 		if len(matches) != 0 || lost || x.Live() != 0 {
 			t.Errorf("got %v, %v", matches, lost)
@@ -242,14 +209,14 @@ func TestOfNone(t *testing.T) {
 }
 
 func TestIsTheCallers(t *testing.T) {
-	s := types(t)
+	s := sample.Schema()
 	const text = "SEQ(A a, B b) WHERE b: b.x = a.x WITHIN 9"
-	q, a := read(t, text), at("A", 1, 1, 5)
+	q, a := sample.Query(text), at("A", 1, 1, 5)
 	x := match.New(s, q)
 	x.Feed(a)
 	saved := x.Save()
 	y := match.Load(s, q, saved)
-	if !pat.Same(q, read(t, text)) || !event.Same(a, at("A", 1, 1, 5)) || !sameSaves(saved, x.Save()) {
+	if !pat.Same(q, sample.Query(text)) || !event.Same(a, at("A", 1, 1, 5)) || !sameSaves(saved, x.Save()) {
 		t.Errorf("what was handed in was changed: %v, %v, %v", q, a, saved)
 	}
 	q.Elems[0].Types[0], q.Elems[1].Types[0], q.Elems[1].Pred[0] = "Z", "Z", api.Node{}

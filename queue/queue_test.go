@@ -7,6 +7,7 @@ import (
 
 	"lamplighter/api"
 	"lamplighter/queue"
+	"lamplighter/sample"
 )
 
 // state is all that is told of a queue.
@@ -138,16 +139,12 @@ func TestAnyType(t *testing.T) {
 
 // TestDrawn holds a queue against a list, whatever is put and taken.
 func TestDrawn(t *testing.T) {
-	d := uint64(1)
-	below := func(n int) int {
-		d = d*2862933555777941757 + 3037000493
-		return int(d >> 35 % uint64(n))
-	}
+	d := sample.Dice(1)
 	for room := 1; room < 5; room++ {
 		q, want := queue.New[int](room), state{room: room, canPut: true}
 		var l []int
 		for i := range 500 {
-			if below(2) == 0 {
+			if d.Below(2) == 0 {
 				e := q.Put(i)
 				if (e == api.OK) != want.canPut {
 					t.Fatalf("put: got %d", e)

@@ -8,6 +8,7 @@ import (
 	"lamplighter/api"
 	"lamplighter/event"
 	"lamplighter/reorder"
+	"lamplighter/sample"
 	"lamplighter/value"
 )
 
@@ -147,22 +148,18 @@ func TestRoom(t *testing.T) {
 
 // TestDrawn holds a buffer against a sorted list, whatever is put and taken.
 func TestDrawn(t *testing.T) {
-	d := uint64(1)
-	below := func(n int) int64 {
-		d = d*2862933555777941757 + 3037000493
-		return int64(d >> 35 % uint64(n))
-	}
+	d := sample.Dice(1)
 	b := reorder.New()
 	var kept []api.Event
 	for i := range int64(3000) {
-		if below(3) > 0 {
-			e := at(below(50), i)
+		if d.Below(3) > 0 {
+			e := at(int64(d.Below(50)), i)
 			kept = append(kept, e)
 			b.Push(e)
 			continue
 		}
 		kept = event.Sort(kept)
-		time := below(50)
+		time := int64(d.Below(50))
 		cut := 0
 		for cut < len(kept) && kept[cut].Time <= time {
 			cut++

@@ -8,8 +8,12 @@ import (
 	"lamplighter/api"
 	"lamplighter/event"
 	"lamplighter/run"
+	"lamplighter/sample"
 	"lamplighter/value"
 )
+
+// pairs is a list of pairs, from elements and numbers that take turns.
+var pairs = sample.Pairs
 
 // query is A a, !B n, C c{1,3}, D d.
 func query() api.Query {
@@ -22,34 +26,21 @@ func query() api.Query {
 }
 
 func at(kind string, time, seq int64) api.Event {
-	return api.Event{Type: kind, Key: "k", Time: time, Seq: seq, Vals: []api.Value{value.Num(seq)}}
-}
-
-func pairs(l ...int64) []api.Pair {
-	var m []api.Pair
-	for i := 0; i+1 < len(l); i += 2 {
-		m = append(m, api.Pair{Elem: int(l[i]), Seq: l[i+1]})
-	}
-	return m
+	return sample.Event(kind, "k", time, seq, seq)
 }
 
 func sameBounds(a, b []api.Bound) bool {
 	return slices.EqualFunc(a, b, func(x, y api.Bound) bool { return x.Var == y.Var && event.Same(x.E, y.E) })
 }
 
-func sameSaved(a, b api.Saved) bool {
-	return a.State == b.State && slices.Equal(a.Pairs, b.Pairs) && sameBounds(a.Env, b.Env) &&
-		a.First == b.First && a.Last == b.Last && a.Blocked == b.Blocked
-}
-
 // check holds all that is told of a run against what should be.
 func check(t *testing.T, r run.Run, want api.Saved) {
 	t.Helper()
 	got := api.Saved{State: r.State(), Pairs: r.Pairs(), Env: r.Env(), First: r.First(), Last: r.Last(), Blocked: r.Blocked()}
-	if !sameSaved(got, want) {
+	if !sample.SameSaved(got, want) {
 		t.Errorf("got %v, want %v", got, want)
 	}
-	if !sameSaved(r.Save(), want) || !sameSaved(run.Load(want).Save(), want) || !run.Same(run.Load(want), r) {
+	if !sample.SameSaved(r.Save(), want) || !sample.SameSaved(run.Load(want).Save(), want) || !run.Same(run.Load(want), r) {
 		t.Errorf("kept elsewhere: got %v, want %v", r.Save(), want)
 	}
 	elem := -1

@@ -8,48 +8,27 @@ import (
 	"lamplighter/api"
 	"lamplighter/event"
 	"lamplighter/pat"
-	"lamplighter/ppat"
 	"lamplighter/run"
+	"lamplighter/sample"
 	"lamplighter/schema"
 	"lamplighter/step"
 	"lamplighter/value"
 )
 
-func types(t *testing.T) *schema.Schema {
-	t.Helper()
-	x := []api.Field{{Name: "x", Kind: api.Int}}
-	s, e := schema.New([]api.Type{{Name: "A", Fields: x}, {Name: "B", Fields: x}, {Name: "C", Fields: x}})
-	if e != api.OK {
-		t.Fatalf("the schema: %d", e)
-	}
-	return s
-}
+// pairs is a list of pairs, from elements and numbers that take turns.
+var pairs = sample.Pairs
 
-func read(t *testing.T, text string) api.Query {
-	t.Helper()
-	q, e := ppat.Parse(text)
-	if e != api.OK {
-		t.Fatalf("%s: %d", text, e)
-	}
-	return q
-}
-
-func maker(t *testing.T, text string) *step.Maker {
-	t.Helper()
-	return step.New(types(t), read(t, text))
+func maker(text string) *step.Maker {
+	return step.New(sample.Schema(), sample.Query(text))
 }
 
 func at(kind string, seq, x int64) api.Event {
-	return api.Event{Type: kind, Key: "k", Time: seq, Seq: seq, Vals: []api.Value{value.Num(x)}}
+	return sample.Event(kind, "k", seq, seq, x)
 }
 
 // load is a run at a state, with pairs of elements and numbers.
 func load(state int, l ...int64) run.Run {
-	var m []api.Pair
-	for i := 0; i+1 < len(l); i += 2 {
-		m = append(m, api.Pair{Elem: int(l[i]), Seq: l[i+1]})
-	}
-	return run.Load(api.Saved{State: state, Pairs: m})
+	return run.Load(api.Saved{State: state, Pairs: pairs(l...)})
 }
 
 // check holds runs against states and pairs, none of which is blocked.
@@ -67,14 +46,14 @@ func check(t *testing.T, got []run.Run, want ...run.Run) {
 }
 
 func TestExample(t *testing.T) {
-	m := maker(t, "SEQ(A a, B b) WITHIN 9")
+	m := maker("SEQ(A a, B b) WITHIN 9")
 	check(t, m.More(run.Run{}, at("A", 1, 0)), load(1, 0, 1))
 	check(t, m.More(run.Run{}, at("B", 1, 0)))
 }
 
 // TestMore holds that a run goes on with one more of its element first, then with the first one of the next.
 func TestMore(t *testing.T) {
-	m := maker(t, "SEQ(A a{2,3}, !C n, (A|B) b) WHERE a: a.x > 0; b: b.x > 1 WITHIN 9")
+	m := maker("SEQ(A a{2,3}, !C n, (A|B) b) WHERE a: a.x > 0; b: b.x > 1 WITHIN 9")
 	one := load(1, 0, 1)
 	two := load(2, 0, 1, 0, 2)
 	three := load(3, 0, 1, 0, 2, 0, 3)
@@ -100,7 +79,7 @@ func TestMore(t *testing.T) {
 
 // TestMoreHasItsVariables holds that a run that goes on has what its variables stand for, and when it began.
 func TestMoreHasItsVariables(t *testing.T) {
-	m := maker(t, "SEQ(A a, B b) WHERE b: b.x = a.x WITHIN 9")
+	m := maker("SEQ(A a, B b) WHERE b: b.x = a.x WITHIN 9")
 	l := m.More(run.Run{}, at("A", 3, 7))
 	check(t, l, load(1, 0, 3))
 	if env := l[0].Env(); len(env) != 1 || env[0].Var != "a" || !event.Same(env[0].E, at("A", 3, 7)) || l[0].First() != 3 {
@@ -113,7 +92,7 @@ func TestMoreHasItsVariables(t *testing.T) {
 }
 
 func TestStatesThatThereAreNot(t *testing.T) {
-	m := maker(t, "SEQ(A a{1,2}, B b) WITHIN 9")
+	m := maker("SEQ(A a{1,2}, B b) WITHIN 9")
 	for _, k := range []int{-1, 4, math.MinInt, math.MaxInt} {
 		r := load(k, 0, 1)
 		check(t, m.More(r, at("A", 2, 0)))
@@ -125,7 +104,7 @@ func TestStatesThatThereAreNot(t *testing.T) {
 }
 
 func TestBehind(t *testing.T) {
-	m := maker(t, "SEQ(A a, !B n, C c) WHERE n: n.x = a.x WITHIN 9")
+	m := maker("SEQ(A a, !B n, C c) WHERE n: n.x = a.x WITHIN 9")
 	r := m.More(run.Run{}, at("A", 1, 5))[0]
 	cases := []struct {
 		e    api.Event
@@ -150,7 +129,7 @@ func TestBehind(t *testing.T) {
 }
 
 func TestEndsAndDead(t *testing.T) {
-	m := maker(t, "SEQ(A a{1,2}, !C n, B b{2,3}) WITHIN 9")
+	m := maker("SEQ(A a{1,2}, !C n, B b{2,3}) WITHIN 9")
 	cases := []struct {
 		name       string
 		r          run.Run
@@ -186,18 +165,18 @@ func TestOfNone(t *testing.T) {
 		t.Errorf("got %v", got.Save())
 	}
 	for _, s := range []*schema.Schema{nil, {}} {
-		m := step.New(s, read(t, "SEQ(A a, B b) WHERE b: b.x = 1 WITHIN 9"))
+		m := step.New(s, sample.Query("SEQ(A a, B b) WHERE b: b.x = 1 WITHIN 9"))
 		check(t, m.More(run.Run{}, at("A", 1, 0)), r)
 		check(t, m.More(r, at("B", 2, 1)))
 	}
-	check(t, step.New(types(t), api.Query{}).More(run.Run{}, at("A", 1, 0)))
+	check(t, step.New(sample.Schema(), api.Query{}).More(run.Run{}, at("A", 1, 0)))
 }
 
 func TestIsTheCallers(t *testing.T) {
 	const text = "SEQ(A a, !C n, B b) WHERE b: b.x = a.x WITHIN 9"
-	q, a := read(t, text), at("A", 1, 5)
-	m := step.New(types(t), q)
-	if !pat.Same(q, read(t, text)) || !pat.Same(m.Query(), q) {
+	q, a := sample.Query(text), at("A", 1, 5)
+	m := step.New(sample.Schema(), q)
+	if !pat.Same(q, sample.Query(text)) || !pat.Same(m.Query(), q) {
 		t.Errorf("got %v", m.Query())
 	}
 	for _, other := range []api.Query{q, m.Query()} {
@@ -206,7 +185,7 @@ func TestIsTheCallers(t *testing.T) {
 	l := m.More(run.Run{}, a)
 	a.Vals[0] = value.Num(6)
 	check(t, m.More(l[0], at("B", 2, 5)), load(2, 0, 1, 2, 2))
-	if !pat.Same(m.Query(), read(t, text)) || !m.Behind(l[0], at("C", 2, 0)).Blocked() {
+	if !pat.Same(m.Query(), sample.Query(text)) || !m.Behind(l[0], at("C", 2, 0)).Blocked() {
 		t.Errorf("it was changed: %v", m.Query())
 	}
 	l[0] = run.Run{}

@@ -2,56 +2,22 @@ package truth_test
 
 import (
 	"slices"
-	"strconv"
-	"strings"
 	"testing"
 
 	"lamplighter/api"
 	"lamplighter/eval"
+	"lamplighter/sample"
 	"lamplighter/schema"
 	"lamplighter/truth"
 )
 
-// dice draws numbers by a rule.
-type dice uint64
-
-func (d *dice) below(n int) int {
-	*d = *d*2862933555777941757 + 3037000493
-	return int(*d >> 35 % dice(n))
-}
-
-func (d *dice) pick(l ...string) string { return l[d.below(len(l))] }
-
-// text draws the text of a query that may be, of one to four elements; those in the middle may be such as must not be there.
-func (d *dice) text() string {
-	names := []string{"a", "b", "c", "d"}[:1+d.below(4)]
-	once := map[string]bool{}
-	var elems, preds []string
-	for i, name := range names {
-		not, often := "", d.pick("", "", "{1,2}", "{2,3}", "{1,4}")
-		if i > 0 && i < len(names)-1 && d.below(2) == 0 {
-			not, often = "!", ""
-		}
-		elems = append(elems, not+d.pick("A", "B", "C", "(A|B)", "(A|B|C)")+" "+name+often)
-		if other := d.pick(names[:i+1]...); d.below(2) == 0 && (other == name || once[other]) {
-			preds = append(preds, name+": "+name+".x "+d.pick("=", "!=", "<", ">=")+" "+other+".x + "+d.pick("0", "1"))
-		}
-		once[name] = not == "" && often == ""
-	}
-	s := "SEQ(" + strings.Join(elems, ", ") + ")"
-	if len(preds) > 0 {
-		s += " WHERE " + strings.Join(preds, "; ")
-	}
-	return s + " WITHIN " + strconv.Itoa(1+d.below(8))
-}
-
 // events draws events in their order, with numbers that do not rise as the times do.
-func (d *dice) events() []api.Event {
-	many := d.below(7)
+func events(d *sample.Dice) []api.Event {
+	many := d.Below(7)
 	seqs := []int64{5, 3, 8, 1, 9, 2, 7}
 	var l []api.Event
 	for i := range many {
-		l = append(l, at(d.pick("A", "B", "C"), int64(i+d.below(2)*i), seqs[i], int64(d.below(3))))
+		l = append(l, at(d.Pick("A", "B", "C"), int64(i+d.Below(2)*i), seqs[i], int64(d.Below(3))))
 	}
 	slices.SortFunc(l, func(a, b api.Event) int {
 		if a.Time != b.Time {
@@ -140,10 +106,10 @@ func (x model) all() [][]api.Pair {
 
 // TestAgainstTheModel holds all matches of drawn queries in drawn events.
 func TestAgainstTheModel(t *testing.T) {
-	s, d, found, none := types(t), dice(1), 0, 0
+	s, d, found, none := sample.Schema(), sample.Dice(1), 0, 0
 	for range 1500 {
-		text := d.text()
-		q, l := read(t, text), d.events()
+		text := d.Query(8)
+		q, l := read(t, text), events(&d)
 		want := model{s, q, l}.all()
 		got := truth.All(s, q, l)
 		if !sameAll(got, want) {
@@ -167,10 +133,10 @@ func TestAgainstTheModel(t *testing.T) {
 
 // TestMatchAgainstAll holds that all short lists of pairs that are not among all matches are none.
 func TestMatchAgainstAll(t *testing.T) {
-	s, d := types(t), dice(7)
+	s, d := sample.Schema(), sample.Dice(7)
 	for range 40 {
-		text := d.text()
-		q, l := read(t, text), d.events()
+		text := d.Query(8)
+		q, l := read(t, text), events(&d)
 		all := truth.All(s, q, l)
 		lists := [][]api.Pair{nil}
 		for from := 0; from < len(lists); from++ {

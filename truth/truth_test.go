@@ -7,27 +7,17 @@ import (
 
 	"lamplighter/api"
 	"lamplighter/event"
+	"lamplighter/sample"
 	"lamplighter/schema"
 	"lamplighter/show"
 	"lamplighter/truth"
 	"lamplighter/value"
 )
 
-// types is a schema in which A, B and C have a number x.
-func types(t *testing.T) *schema.Schema {
-	t.Helper()
-	fields := []api.Field{{Name: "x", Kind: api.Int}}
-	s, e := schema.New([]api.Type{{Name: "A", Fields: fields}, {Name: "B", Fields: fields}, {Name: "C", Fields: fields}})
-	if e != api.OK {
-		t.Fatalf("the schema: %d", e)
-	}
-	return s
-}
-
 // read is the query of a text, which may be.
 func read(t *testing.T, text string) api.Query {
 	t.Helper()
-	q, e := show.Read(types(t), text)
+	q, e := show.Read(sample.Schema(), text)
 	if e != api.OK {
 		t.Fatalf("%q: %d", text, e)
 	}
@@ -36,7 +26,7 @@ func read(t *testing.T, text string) api.Query {
 
 // at is an event of a type, with a time, a number and an x.
 func at(kind string, time, seq, x int64) api.Event {
-	return api.Event{Type: kind, Key: "k", Time: time, Seq: seq, Vals: []api.Value{value.Num(x)}}
+	return sample.Event(kind, "k", time, seq, x)
 }
 
 // row is events of types that are one letter each, at the times 1, 2, .., with these as numbers and as x.
@@ -50,13 +40,7 @@ func row(kinds string) []api.Event {
 }
 
 // pairs is a list of pairs, from elements and numbers that take turns.
-func pairs(l ...int64) []api.Pair {
-	var m []api.Pair
-	for i := 0; i < len(l); i += 2 {
-		m = append(m, api.Pair{Elem: int(l[i]), Seq: l[i+1]})
-	}
-	return m
-}
+var pairs = sample.Pairs
 
 func sameAll(a, b [][]api.Pair) bool {
 	return slices.EqualFunc(a, b, slices.Equal[[]api.Pair])
@@ -64,14 +48,14 @@ func sameAll(a, b [][]api.Pair) bool {
 
 func checkAll(t *testing.T, text string, l []api.Event, want ...[]api.Pair) {
 	t.Helper()
-	if got := truth.All(types(t), read(t, text), l); !sameAll(got, want) {
+	if got := truth.All(sample.Schema(), read(t, text), l); !sameAll(got, want) {
 		t.Errorf("All of %s: got %v, want %v", text, got, want)
 	}
 }
 
 func checkWhy(t *testing.T, text string, l []api.Event, m []api.Pair, want int) {
 	t.Helper()
-	s, q := types(t), read(t, text)
+	s, q := sample.Schema(), read(t, text)
 	if got := truth.Why(s, q, l, m); got != want {
 		t.Errorf("Why of %v for %s: got %d, want %d", m, text, got, want)
 	}
@@ -174,7 +158,7 @@ func TestPredicates(t *testing.T) {
 	// One that may be there twice is unknown to others.
 	twice := read(t, "SEQ(A a, B b) WHERE b: b.x = a.x WITHIN 9")
 	twice.Elems[0].Max = 2
-	if got := truth.All(types(t), twice, l); len(got) != 0 {
+	if got := truth.All(sample.Schema(), twice, l); len(got) != 0 {
 		t.Errorf("got %v", got)
 	}
 }
@@ -214,13 +198,13 @@ func TestMostTruth(t *testing.T) {
 		t.Fatalf("%d events", len(l))
 	}
 	checkAll(t, "SEQ(A a, B b) WITHIN 99", l)
-	if got := truth.All(types(t), read(t, "SEQ(A a) WITHIN 9"), l); len(got) != api.MaxTruth {
+	if got := truth.All(sample.Schema(), read(t, "SEQ(A a) WITHIN 9"), l); len(got) != api.MaxTruth {
 		t.Errorf("got %v", got)
 	}
 	// They are the first in their order, not in the list.
 	slices.Reverse(l)
 	checkAll(t, "SEQ(A a, B b) WITHIN 99", l)
-	if got := truth.All(types(t), read(t, "SEQ(A a, B b) WITHIN 99"), l[:api.MaxTruth]); len(got) != api.MaxTruth-1 {
+	if got := truth.All(sample.Schema(), read(t, "SEQ(A a, B b) WITHIN 99"), l[:api.MaxTruth]); len(got) != api.MaxTruth-1 {
 		t.Errorf("got %v", got)
 	}
 	// A match of more events is one all the same.
@@ -300,11 +284,11 @@ func TestWhatNeedNotBeThere(t *testing.T) {
 		"AB":  nil,
 		"BC":  nil,
 	} {
-		if got := truth.All(types(t), q, row(kinds)); !sameAll(got, want) {
+		if got := truth.All(sample.Schema(), q, row(kinds)); !sameAll(got, want) {
 			t.Errorf("All in %s: got %v, want %v", kinds, got, want)
 		}
 		for _, m := range want {
-			if !truth.Match(types(t), q, row(kinds), m) {
+			if !truth.Match(sample.Schema(), q, row(kinds), m) {
 				t.Errorf("Match in %s: %v is none", kinds, m)
 			}
 		}
@@ -313,7 +297,7 @@ func TestWhatNeedNotBeThere(t *testing.T) {
 
 // TestQueriesThatMayNotBe holds that all calls answer by what queries say.
 func TestQueriesThatMayNotBe(t *testing.T) {
-	s, l := types(t), row("AB")
+	s, l := sample.Schema(), row("AB")
 	a, b := api.Elem{Var: "a", Types: []string{"A"}, Min: 1, Max: 1}, api.Elem{Var: "b", Types: []string{"B"}, Min: 0, Max: 1}
 	not := api.Elem{Var: "n", Types: []string{"B"}, Neg: true, Min: 1, Max: 1}
 	cases := []struct {
@@ -394,7 +378,7 @@ func TestEnv(t *testing.T) {
 }
 
 func TestFits(t *testing.T) {
-	s, l := types(t), row("AACB")
+	s, l := sample.Schema(), row("AACB")
 	q := read(t, "SEQ(A a, !B n, (B|C) c) WHERE a: a.x > 1; n: n.x = a.x + 2; c: c.x > a.x WITHIN 9")
 	cases := []struct {
 		m    []api.Pair
@@ -436,7 +420,7 @@ func TestFits(t *testing.T) {
 func TestItsOwnVariable(t *testing.T) {
 	q := read(t, "SEQ(A a, B b) WHERE b: b.x = 2 WITHIN 9")
 	q.Elems[0].Var = "b"
-	if got := truth.All(types(t), q, row("AB")); !sameAll(got, [][]api.Pair{pairs(0, 1, 1, 2)}) {
+	if got := truth.All(sample.Schema(), q, row("AB")); !sameAll(got, [][]api.Pair{pairs(0, 1, 1, 2)}) {
 		t.Errorf("got %v", got)
 	}
 }
@@ -461,7 +445,7 @@ func TestEnds(t *testing.T) {
 
 // TestIsTheCallers holds that no list of an answer shares with another one, or with what was handed in.
 func TestIsTheCallers(t *testing.T) {
-	s, q, l := types(t), read(t, "SEQ(A a{1,3}, B b{1,2}) WITHIN 9"), row("AAABB")
+	s, q, l := sample.Schema(), read(t, "SEQ(A a{1,3}, B b{1,2}) WITHIN 9"), row("AAABB")
 	all, again := truth.All(s, q, l), truth.All(s, q, l)
 	for i := range all {
 		for j := range all[i] {
