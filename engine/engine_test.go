@@ -9,9 +9,7 @@ import (
 	"lamplighter/api"
 	"lamplighter/emit"
 	"lamplighter/engine"
-	"lamplighter/event"
 	"lamplighter/mark"
-	"lamplighter/pat"
 	"lamplighter/sample"
 	"lamplighter/value"
 )
@@ -171,14 +169,6 @@ func TestRoom(t *testing.T) {
 	check(t, x, 5, 1, 0, false)
 }
 
-func sameImage(a, b api.Image) bool {
-	sameEntry := func(x, y api.Entry) bool {
-		return x.Id == y.Id && pat.Same(x.Q, y.Q) && x.From == y.From && x.To == y.To
-	}
-	return a.Mark == b.Mark && a.Closed == b.Closed && slices.EqualFunc(a.Entries, b.Entries, sameEntry) &&
-		slices.EqualFunc(a.Events, b.Events, event.Same) && slices.EqualFunc(a.Slots, b.Slots, sample.SameSlot)
-}
-
 // image is an engine as it is kept elsewhere, with one of all that there may be.
 func image() api.Image {
 	a := at("A", "k", 3, 2)
@@ -197,7 +187,7 @@ func image() api.Image {
 
 func TestSave(t *testing.T) {
 	x := engine.New(sample.Schema())
-	if got := x.Save(); !sameImage(got, api.Image{Mark: -1}) {
+	if got := x.Save(); !sample.SameImage(got, api.Image{Mark: -1}) {
 		t.Errorf("got %v", got)
 	}
 	take(t, x, register(1, "p", "SEQ(A a, !C n, B b) WITHIN 9"), api.OK)
@@ -208,20 +198,20 @@ func TestSave(t *testing.T) {
 	take(t, x, put(at("B", "k", 6, 8)), api.OK)
 	take(t, x, put(at("B", "k", 6, 6)), api.OK)
 	take(t, x, unregister(7, "p"), api.OK)
-	if got := x.Save(); !sameImage(got, image()) {
+	if got := x.Save(); !sample.SameImage(got, image()) {
 		t.Errorf("got %v", got)
 	}
 	take(t, x, end(), api.OK)
 	want := image()
 	want.Closed = true
-	if got := x.Save(); !sameImage(got, want) {
+	if got := x.Save(); !sample.SameImage(got, want) {
 		t.Errorf("got %v", got)
 	}
 }
 
 func TestLoad(t *testing.T) {
 	x, e := engine.Load(sample.Schema(), image())
-	if e != api.OK || !sameImage(x.Save(), image()) {
+	if e != api.OK || !sample.SameImage(x.Save(), image()) {
 		t.Fatalf("got %d, %v", e, x.Save())
 	}
 	check(t, x, 4, 2, 1, false)
@@ -276,7 +266,7 @@ func TestOfNone(t *testing.T) {
 	for _, m := range []api.Msg{{}, end(), put(at("A", "k", 5, 1)), advance(5), register(1, "p", "SEQ(A a) WITHIN 9")} {
 		take(t, none, m, api.ErrInput)
 	}
-	if none.Mark() != (mark.Mark{}) || none.Kept() != 0 || !none.Closed() || none.Live() != 0 || !none.Within() || !sameImage(none.Save(), api.Image{}) {
+	if none.Mark() != (mark.Mark{}) || none.Kept() != 0 || !none.Closed() || none.Live() != 0 || !none.Within() || !sample.SameImage(none.Save(), api.Image{}) {
 		t.Errorf("none has something: %v", none.Save())
 	}
 	for _, x := range []*engine.Engine{{}, engine.New(nil)} {
@@ -299,7 +289,7 @@ func TestIsTheCallers(t *testing.T) {
 	take(t, x, put(at("B", "k", 6, 5)), api.OK)
 	i := x.Save()
 	y, _ := engine.Load(sample.Schema(), i)
-	if !sameImage(i, x.Save()) {
+	if !sample.SameImage(i, x.Save()) {
 		t.Errorf("what was handed in was changed: %v", i)
 	}
 	i.Entries[0].Q.Elems[1].Types[0] = "Z"

@@ -109,7 +109,7 @@ func TestAllIsTold(t *testing.T) {
 				t.Fatalf("kept elsewhere: %v: got %d, %d things, want %d", m, too, len(other), len(got))
 			}
 			i := kept.Save()
-			if !sameImage(i, x.Save()) {
+			if !sample.SameImage(i, x.Save()) {
 				t.Fatalf("kept elsewhere: got %v, want %v", i, x.Save())
 			}
 			if kept, e = engine.Load(s, i); e != api.OK {

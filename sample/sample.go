@@ -8,6 +8,7 @@ import (
 
 	"lamplighter/api"
 	"lamplighter/event"
+	"lamplighter/pat"
 	"lamplighter/ppat"
 	"lamplighter/schema"
 	"lamplighter/value"
@@ -44,7 +45,7 @@ func Pairs(l ...int64) []api.Pair {
 	return m
 }
 
-// SameSaved tells whether two runs that are kept elsewhere are alike, and what variables stand for; SameSlot, two matchers.
+// SameSaved tells whether two runs that are kept elsewhere are alike, and what variables stand for; SameSlot, two matchers; SameImage, two engines.
 func SameSaved(a, b api.Saved) bool {
 	return a.State == b.State && slices.Equal(a.Pairs, b.Pairs) && slices.EqualFunc(a.Env, b.Env, sameBound) &&
 		a.First == b.First && a.Last == b.Last && a.Blocked == b.Blocked
@@ -52,6 +53,11 @@ func SameSaved(a, b api.Saved) bool {
 
 func SameSlot(a, b api.Slot) bool {
 	return a.Key == b.Key && a.Place == b.Place && slices.EqualFunc(a.Runs, b.Runs, SameSaved)
+}
+
+func SameImage(a, b api.Image) bool {
+	return a.Mark == b.Mark && a.Closed == b.Closed && slices.EqualFunc(a.Entries, b.Entries, sameEntry) &&
+		slices.EqualFunc(a.Events, b.Events, event.Same) && slices.EqualFunc(a.Slots, b.Slots, SameSlot)
 }
 
 // Dice draws by a rule.
@@ -88,6 +94,10 @@ func (d *Dice) Query(window int) string {
 		s += " WHERE " + strings.Join(preds, "; ")
 	}
 	return s + " WITHIN " + strconv.Itoa(1+d.Below(window))
+}
+
+func sameEntry(a, b api.Entry) bool {
+	return a.Id == b.Id && pat.Same(a.Q, b.Q) && a.From == b.From && a.To == b.To
 }
 
 func sameBound(a, b api.Bound) bool { return a.Var == b.Var && event.Same(a.E, b.E) }
