@@ -123,6 +123,7 @@ func TestWrong(t *testing.T) {
 		{"parts know more than was told", func(x *odd) { x.mark = 6 }, api.WrongMark},
 		{"parts know less than was told", func(x *odd) { x.at = -1 }, 0},
 		{"nobody has the lock", func(x *odd) { x.owner = api.Nobody }, api.WrongLock},
+		{"nobody has the lock that one waits for", func(x *odd) { x.owner, x.waiting = api.Nobody, 1 }, api.WrongLock},
 		{"nobody has the lock, nor waits", func(x *odd) { x.owner, x.waiting = api.Nobody, 0 }, 0},
 		{"nothing can be done", func(x *odd) { x.quiet = true }, api.WrongStuck},
 		{"nothing can be done, nor is", func(x *odd) { x.quiet, x.busy[1] = true, false }, 0},

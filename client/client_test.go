@@ -418,6 +418,25 @@ func TestOfNone(t *testing.T) {
 	}
 }
 
+// TestNothingShared holds that where something is missing no call panics: it waits, or is refused.
+func TestNothingShared(t *testing.T) {
+	empty, s := &client.Shared{}, shared(0, 1, 1)
+	for _, c := range []api.Call{advance(5), try("A", "k", 5), publish("A", "k", 5), stats(), {}} {
+		for _, l := range []*client.Shared{empty, s} {
+			x := client.New(0, []api.Call{c})
+			for range 9 {
+				x.Step(l)
+			}
+		}
+	}
+	s = shared(0, 1, 1)
+	s.Queues = append(s.Queues, nil)
+	x := client.New(0, []api.Call{try("A", "k", 5), publish("A", "k", 5)})
+	steps(t, x, s, 5)
+	stuck(t, x, s)
+	noted(t, s, call(0, 0), turn(0, 0, api.ErrFull, 0), reply(0, 0, api.ErrFull, 0), call(0, 1), turn(0, 1, api.OK, 1))
+}
+
 // TestWho holds that who is below 0 is 0, and that who has no place among those who count still does calls.
 func TestWho(t *testing.T) {
 	for who, want := range map[int]int{math.MinInt: 0, -1: 0, 0: 0, 7: 7, math.MaxInt: math.MaxInt} {

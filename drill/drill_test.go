@@ -12,6 +12,7 @@ import (
 	"lamplighter/front"
 	"lamplighter/schema"
 	"lamplighter/show"
+	"lamplighter/value"
 )
 
 // TestBelow holds the first numbers of some beginnings, as the rule tells them.
@@ -79,7 +80,7 @@ func (s seen) check(t *testing.T, want ...string) {
 
 func TestEvent(t *testing.T) {
 	s, d := drill.Schema(), drill.New(1)
-	types, keys, times := seen{}, seen{}, seen{}
+	types, keys, times, truths := seen{}, seen{}, seen{}, seen{}
 	for range 1000 {
 		e := d.Event(3)
 		if err := event.Check(s, e); err != api.OK || e.Seq != 0 {
@@ -88,10 +89,14 @@ func TestEvent(t *testing.T) {
 		types[e.Type]++
 		keys[e.Key]++
 		times[string(rune('0'+e.Time))]++
+		if e.Type == "C" {
+			truths[value.Show(e.Vals[2])]++
+		}
 	}
 	types.check(t, "A", "B", "C")
 	keys.check(t, "k", "l", "m", "n")
 	times.check(t, "0", "1", "2", "3")
+	truths.check(t, "true", "false")
 	for most, bound := range map[int64]int64{math.MinInt64: 0, -1: 0, 0: 0, 1: 1, 100: 100, 1 << 30: 1 << 30, 1<<30 + 1: 1 << 30, math.MaxInt64: 1 << 30} {
 		for range 100 {
 			if e := d.Event(most); e.Time < 0 || e.Time > bound || event.Check(s, e) != api.OK {

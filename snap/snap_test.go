@@ -64,7 +64,11 @@ func TestGet(t *testing.T) {
 	s := sample.Schema()
 	far := api.Image{Mark: math.MinInt64, Closed: true, Slots: []api.Slot{{Key: "'", Place: math.MaxInt, Runs: []api.Saved{{State: math.MinInt, First: math.MaxInt64, Last: api.Stamp{Time: math.MinInt64, Seq: math.MaxInt64}}}}}}
 	odd := api.Image{Entries: []api.Entry{{Id: "no name", Q: sample.Query("SEQ(A a) WITHIN 1"), From: -5, To: math.MinInt64}}, Events: []api.Event{{}, {Type: "?", Time: -9}}}
-	for name, i := range map[string]api.Image{"all": image(), "nothing": none(), "zero": {}, "far": far, "odd": odd} {
+	// Things of which there are many take as few bytes as may be.
+	many := api.Image{Events: make([]api.Event, 50), Slots: make([]api.Slot, 50)}
+	many.Slots[7].Runs = make([]api.Saved, 50)
+	many.Slots[49].Runs = []api.Saved{{Env: make([]api.Bound, 50), Pairs: make([]api.Pair, 50)}}
+	for name, i := range map[string]api.Image{"all": image(), "nothing": none(), "zero": {}, "far": far, "odd": odd, "many": many} {
 		got, e := snap.Get(s, snap.Put(i))
 		if e != api.OK || !sample.SameImage(got, i) {
 			t.Errorf("%s: got %d, %v, want %v", name, e, got, i)
